@@ -1,0 +1,1 @@
+"""Fencerow: threads over shared cells, whose stores wait before all see them."""
