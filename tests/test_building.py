@@ -1,43 +1,11 @@
 """Programs told as tuples: program_of and Program.plain."""
 
 import copy
-import itertools
 import unittest
 
 from fencerow.building import program_of
 from fencerow.rows import Program
-
-CELLS = (("x", 0), ("y", 99), ("abcdef", 7))
-FENCE = ("fence",)
-FORMS = (
-    ("put", "x", 1), ("put", "x", "a"), ("put", "x", 0), ("put", "x", 99),
-    ("get", "a", "x"),
-    ("swap", "a", "x", 1), ("swap", "a", "x", "b"), ("swap", "a", "x", "a"),
-    ("swap", "a", "x", 0), ("swap", "a", "x", 99),
-    ("add", "a", 1, 2), ("add", "a", "b", 99), ("add", "a", 0, "b"), ("add", "a", "a", "a"), ("add", "a", 99, 99),
-    ("skip", "a", 0), ("skip", "a", 1),
-    FENCE,
-)
-FIVE_ROWS = (("get", "a", "x"), ("skip", "a", 1), ("put", "x", "a"), ("add", "b", "a", 1), ("swap", "c", "x", "b"))
-FULL = tuple(itertools.chain.from_iterable((FENCE, row) for row in FIVE_ROWS))
-FULL_OF_THREE = (FENCE, FIVE_ROWS[0], FENCE, FENCE, FIVE_ROWS[1], FIVE_ROWS[2], FENCE, FENCE)
-NINE_BEHIND = (("skip", "a", 9),) + FIVE_ROWS[:4] + (FENCE,) * 5
-
-
-def programs():
-    """Programs of each number of threads and cells, up to the most rows."""
-    for many_cells, many_threads in itertools.product((1, 2, 3), (1, 2, 3)):
-        cells = CELLS[:many_cells]
-        full = FULL_OF_THREE if many_threads == 3 else FULL
-        yield (cells, ((),) * many_threads)
-        yield (cells, (full,) * many_threads)
-        yield (cells, (full, (), full)[:many_threads])
-        yield (cells, ((), (FENCE,) * 5, FIVE_ROWS[:3])[:many_threads])
-        for form in FORMS:
-            yield (cells, ((form, FENCE),) + ((),) * (many_threads - 1))
-            yield (cells, ((),) * (many_threads - 1) + ((form, form, FENCE),))
-    yield (CELLS, (NINE_BEHIND,))
-    yield ((("z", 5), ("y", 5), ("x", 5)), ((("get", "b", "z"),), (("get", "b", "y"),)))
+from programs import CELLS, FENCE, FIVE_ROWS, FULL, programs
 
 
 def somewhat_beyond():
