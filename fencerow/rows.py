@@ -43,3 +43,8 @@ def boxes_of_row(row):
 def is_box(kind, part):
     """Whether a part of that kind is a box's name."""
     return kind == "box" or (kind == "value" and isinstance(part, str))
+
+
+def cell_number(program, row):
+    """The number of the cell that a put, get or swap is on."""
+    return program.cell_names.index(row[1] if row[0] == "put" else row[2])

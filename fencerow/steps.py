@@ -1,6 +1,7 @@
 """Steps from state to state, choice by choice."""
 
 from fencerow.errors import BadChoice
+from fencerow.rows import cell_number
 from fencerow.states import begun
 
 
@@ -33,9 +34,14 @@ def after(program, state, choice, waits=True):
 
 
 def need_choice(choice, choices):
-    """Refuses what is none of the choices; a truth is none, though it equals a number."""
-    if not isinstance(choice, int) or isinstance(choice, bool) or choice not in choices:
+    """Refuses what is none of the choices."""
+    if not is_whole(choice) or choice not in choices:
         raise BadChoice(choice)
+
+
+def is_whole(part):
+    """Whether it is a whole number; a truth is none, though it equals one."""
+    return isinstance(part, int) and not isinstance(part, bool)
 
 
 def walked(program, way, waits=True):
@@ -72,7 +78,7 @@ def row_done(program, state, number, waits):
     # Ahead of the boxes: a swap puts what its value was ahead of it.
     put = put_of(program, row, boxes)
     if row[0] in ("get", "swap"):
-        boxes[row[1]] = number_seen(cells, waiting, program.cell_names.index(row[2]))
+        boxes[row[1]] = number_seen(cells, waiting, cell_number(program, row))
     elif row[0] == "add":
         boxes[row[1]] = sum_of(value_of(row[2], boxes), value_of(row[3], boxes))
     if row[0] == "put" and waits:
@@ -89,11 +95,9 @@ def many_gone_over(row, boxes):
 
 def put_of(program, row, boxes):
     """The cell and the number that a put or swap puts there, None of other rows."""
-    if row[0] == "put":
-        return (program.cell_names.index(row[1]), value_of(row[2], boxes))
-    if row[0] == "swap":
-        return (program.cell_names.index(row[2]), value_of(row[3], boxes))
-    return None
+    if row[0] not in ("put", "swap"):
+        return None
+    return (cell_number(program, row), value_of(row[-1], boxes))
 
 
 def value_of(value, boxes):

@@ -19,6 +19,48 @@ FULL = tuple(itertools.chain.from_iterable((FENCE, row) for row in FIVE_ROWS))
 FULL_OF_THREE = (FENCE, FIVE_ROWS[0], FENCE, FENCE, FIVE_ROWS[1], FIVE_ROWS[2], FENCE, FENCE)
 NINE_BEHIND = (("skip", "a", 9),) + FIVE_ROWS[:4] + (FENCE,) * 5
 
+# Of these just 2,000 states are met, with waiting and in plain turns; of the others one or two more.
+JUST_2000 = (
+    ((("z", 5),), (
+        (("get", "c", "z"), ("get", "a", "z"), ("put", "z", "c"), FENCE),
+        (("put", "z", "a"), ("get", "c", "z"), ("put", "z", "a")),
+        (("get", "c", "z"), ("get", "a", "z"), ("put", "z", 2)))),
+    ((("x", 0), ("y", 0)), (
+        (FENCE, ("swap", "d", "x", "a"), ("swap", "d", "y", 50), ("swap", "b", "x", "c")),
+        (("put", "x", 99), FENCE, ("swap", "c", "y", "c"), ("swap", "a", "x", 98), FENCE),
+        (("get", "d", "x"), ("put", "x", 50), ("put", "x", 50)))),
+)
+MORE_THAN_2000 = (
+    ((("z", 0), ("x", 5)), (
+        (("get", "a", "z"), ("put", "x", "c"), ("get", "c", "z")),
+        (("swap", "a", "z", "d"), ("put", "x", "b"), ("put", "x", "b"), FENCE),
+        (("put", "z", 99), ("get", "d", "x"), ("put", "z", 1)))),
+    ((("y", 5),), (
+        (("get", "b", "y"), FENCE, ("swap", "b", "y", "a"), FENCE, ("put", "y", 1)),
+        (("put", "y", 99), FENCE, ("get", "d", "y"), ("get", "c", "y")),
+        (("put", "y", 1), ("swap", "d", "y", 98), ("add", "c", 50, 2)))),
+)
+PLAIN_JUST_2000 = (
+    ((("x", 5),), (
+        (("put", "x", 1), ("put", "x", 2), ("add", "a", 1, "c")),
+        (("get", "a", "x"), ("put", "x", "d"), ("get", "c", "x"), FENCE),
+        (("get", "d", "x"), ("get", "b", "x"), FENCE, ("add", "b", "b", 99)))),
+    ((("y", 0),), (
+        (("swap", "d", "y", 1), ("add", "c", "a", "c"), ("swap", "d", "y", 2), FENCE),
+        (("put", "y", "a"), ("get", "c", "y"), ("swap", "b", "y", 2)),
+        (("put", "y", 99), ("put", "y", 50), ("swap", "d", "y", 2), FENCE))),
+)
+PLAIN_MORE_THAN_2000 = (
+    ((("x", 5),), (
+        (("get", "b", "x"), ("get", "a", "x"), ("put", "x", 1), FENCE),
+        (("swap", "b", "x", 2), ("put", "x", 98), ("put", "x", 1)),
+        (("put", "x", 1), ("get", "d", "x"), ("get", "b", "x")))),
+    ((("y", 5),), (
+        (("get", "a", "y"), FENCE, ("put", "y", 1), FENCE),
+        (("get", "c", "y"), ("get", "a", "y"), ("put", "y", 0)),
+        (("put", "y", 98), ("put", "y", 99), ("add", "a", "a", 99), FENCE, FENCE))),
+)
+
 
 def programs():
     """Programs of each number of threads and cells, up to the most rows."""
