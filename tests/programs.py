@@ -61,6 +61,78 @@ PLAIN_MORE_THAN_2000 = (
         (("put", "y", 98), ("put", "y", 99), ("add", "a", "a", 99), FENCE, FENCE))),
 )
 
+# Of the bare ones: with no place that is chosen at first, and just 2,000 states, or a few more, in plain turns.
+NONE_CHOSEN_JUST_2000 = (
+    ((("x", 0),), (
+        (("get", "b", "x"), ("swap", "c", "x", "b"), ("put", "x", 1)),
+        (("put", "x", 50), ("put", "x", 2), ("swap", "c", "x", 50)),
+        (("swap", "a", "x", "a"), ("get", "c", "x"), ("get", "b", "x")))),
+    ((("x", 0),), (
+        (("swap", "a", "x", "b"), ("put", "x", 50), ("swap", "b", "x", 50)),
+        (("swap", "b", "x", 50), ("swap", "c", "x", 1), ("get", "c", "x")),
+        (("get", "a", "x"), ("put", "x", 1), ("swap", "b", "x", 2)))),
+)
+NONE_CHOSEN_MORE_THAN_2000 = (
+    ((("x", 0),), (
+        (("get", "a", "x"), ("get", "b", "x"), ("get", "c", "x")),
+        (("put", "x", 50), ("swap", "b", "x", 1), ("swap", "c", "x", 1)),
+        (("get", "a", "x"), ("swap", "c", "x", "b"), ("put", "x", 3)))),
+    ((("x", 0),), (
+        (("swap", "b", "x", 1), ("get", "c", "x"), ("swap", "b", "x", 3)),
+        (("swap", "c", "x", 1), ("swap", "a", "x", 1), ("swap", "a", "x", 50)),
+        (("swap", "a", "x", "c"), ("swap", "b", "x", 3), ("get", "b", "x")))),
+)
+# No more than 2,000 in plain turns, and place by place, but more with the fences that are chosen at first,
+# or without any fence.
+ALL_CHOSEN_MORE_THAN_2000 = (
+    ((("x", 0), ("y", 5)), (
+        (("get", "a", "x"), ("put", "y", 2), ("put", "x", "b")),
+        (("put", "x", 2), ("put", "x", 50), ("put", "x", "b")),
+        (("put", "x", "b"), ("get", "c", "x"), ("get", "a", "x")))),
+    ((("x", 0),), (
+        (("put", "x", 2), ("get", "a", "x")),
+        (("get", "b", "x"), ("swap", "c", "x", "a"), ("put", "x", 3)),
+        (("put", "x", 1), ("swap", "c", "x", 3), ("swap", "a", "x", 1)))),
+)
+BARE_MORE_THAN_2000 = (
+    ((("x", 5), ("y", 0), ("z", 0)), (
+        (("put", "y", 1), ("put", "y", "c"), ("put", "x", 3)),
+        (("put", "y", 3), ("put", "z", 3), ("get", "b", "x")),
+        (("put", "x", "a"), ("put", "x", "b"), ("get", "c", "y")))),
+    ((("x", 5), ("y", 5)), (
+        (("put", "y", 50), ("put", "y", 50), ("put", "y", 2)),
+        (("put", "x", "b"), ("put", "x", 50), ("get", "a", "y")),
+        (("put", "y", 1), ("get", "b", "x"), ("put", "y", 1)))),
+)
+# Of these the bare one with the fences that are left without one place is too much, of all others of 13 none:
+# without the first one chosen (two of them by just two states), one between, the last one.
+FENCED_MORE_THAN_2000 = (
+    ((("x", 0),), (
+        (("get", "a", "x"), ("put", "x", 1), ("get", "c", "x")),
+        (("get", "b", "x"), ("put", "x", 3), ("get", "c", "x")),
+        (("get", "a", "x"), ("put", "x", 1), ("put", "x", "a")))),
+    ((("x", 5),), (
+        (("put", "x", 3), ("put", "x", "a"), ("put", "x", 3)),
+        (("put", "x", 50), ("get", "c", "x"), ("put", "x", "b")),
+        (("put", "x", 3), ("put", "x", 2), ("get", "a", "x")))),
+    ((("x", 5), ("y", 5)), (
+        (("put", "y", 3), ("put", "y", 3), ("get", "c", "x")),
+        (("put", "x", "a"), ("get", "a", "y"), ("put", "y", "a")),
+        (("get", "c", "x"), ("put", "y", 2), ("put", "x", 50)))),
+    ((("x", 0), ("y", 0)), (
+        (("get", "b", "x"), ("put", "y", 1), ("get", "b", "x")),
+        (("put", "x", 1), ("get", "b", "y"), ("get", "c", "y")),
+        (("put", "y", 50), ("put", "x", "c"), ("get", "b", "y")))),
+    ((("x", 5), ("y", 0), ("z", 5)), (
+        (("put", "y", 3), ("put", "x", 2), ("get", "c", "z")),
+        (("put", "x", 1), ("put", "z", 1), ("put", "y", 3)),
+        (("put", "z", 3), ("get", "b", "x"), ("put", "z", 3)))),
+    ((("x", 0),), (
+        (("put", "x", 2), ("put", "x", "c"), ("put", "x", 50)),
+        (("put", "x", 1), ("get", "c", "x"), ("put", "x", "a")),
+        (("put", "x", 50), ("put", "x", 2), ("get", "a", "x")))),
+)
+
 
 def programs():
     """Programs of each number of threads and cells, up to the most rows."""
@@ -105,3 +177,24 @@ def drawn_row(lot, word, cells, boxes, behind):
         "put": ("put", cell, left), "get": ("get", box, cell), "swap": ("swap", box, cell, left),
         "add": ("add", box, left, right), "skip": ("skip", box, lot.randint(0, min(9, behind))), "fence": FENCE,
     }[word]
+
+
+def crossed_programs(seed, many):
+    """Programs drawn by lot whose threads put, and then get what the next one puts, with other rows and fences between."""
+    lot = random.Random(seed)
+    for count in range(many):
+        many_threads = lot.choice((2, 2, 2, 3))
+        names = ("x", "y", "zz")[:many_threads]
+        cells = tuple((name, lot.choice((0, 0, 5))) for name in names)
+        yield (cells, tuple(crossed_rows(lot, names, thread) for thread in range(many_threads)))
+
+
+def crossed_rows(lot, cells, thread):
+    most_others = 1 if len(cells) == 3 else lot.choice((0, 1, 2, 3))
+    rows = [("put", cells[thread], lot.choice((1, 2, "b"))), ("get", "a", cells[thread - 1])]
+    for other in range(most_others):
+        row = drawn_row(lot, lot.choice(("put", "get", "swap", "add", "add", "skip")), cells, ("a", "b", "c", "d"), 0)
+        rows.insert(lot.randint(0, len(rows)), row)
+    for fence in range(lot.choice((0, 0, 0, 1, 2))):
+        rows.insert(lot.randint(0, len(rows)), FENCE)
+    return tuple(("skip", row[1], lot.randint(0, len(rows) - at - 1)) if row[0] == "skip" else row for at, row in enumerate(rows))

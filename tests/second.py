@@ -50,6 +50,11 @@ class Node:
         return repr((self.cells, self.at, [sorted(boxes.items()) for boxes in self.boxes], self.waiting, sorted(self.done),
                      sorted(self.sources.items()), self.orders))
 
+    def where(self):
+        """The same of two nodes just where the same state is met, whatever was seen on the way."""
+        waiting = [[(cell, number) for cell, number, place in waiting] for waiting in self.waiting]
+        return repr((self.outcome(), self.at, waiting))
+
     def choices(self):
         for thread, rows in enumerate(self.told[1]):
             if self.waiting[thread]:
@@ -99,10 +104,10 @@ class Node:
         return (tuple(number for number, place in self.cells), numbers)
 
 
-def last_nodes(told, waits, most=20000):
+def last_nodes(told, waits, most=20000, key=Node.key):
     """A node for each thing that whole ways see, None where that goes through more nodes than most."""
     first = Node(told)
-    met = {first.key(): first}
+    met = {key(first): first}
     newest = [first]
     last = []
     while newest:
@@ -113,11 +118,17 @@ def last_nodes(told, waits, most=20000):
         for choice in choices:
             behind = node.behind()
             behind.goes(choice, waits)
-            if met.setdefault(behind.key(), behind) is behind:
+            if met.setdefault(key(behind), behind) is behind:
                 newest.append(behind)
         if len(met) > most:
             return None
     return last
+
+
+def outcomes_met(told, waits, most=2000):
+    """The set of all outcomes, None where more than most states are met."""
+    nodes = last_nodes(told, waits, most, Node.where)
+    return None if nodes is None else {node.outcome() for node in nodes}
 
 
 def key_of(seen):
